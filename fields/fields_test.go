@@ -9,6 +9,7 @@ import (
 
 	"inlay/api"
 	"inlay/fields"
+	"inlay/samples"
 )
 
 const (
@@ -25,20 +26,12 @@ var (
 	ends  = regexp.MustCompile(`\A[\x09\x20]|[\x09\x20]\z`)
 )
 
-func wide(s string) string {
-	var runes []rune
-	for i := range len(s) {
-		runes = append(runes, rune(s[i]))
-	}
-	return string(runes)
-}
-
 func isToken(s string) bool {
-	return token.MatchString(wide(s))
+	return token.MatchString(samples.Wide(s))
 }
 
 func isValue(s string) bool {
-	w := wide(s)
+	w := samples.Wide(s)
 	return value.MatchString(w) && !ends.MatchString(w)
 }
 
@@ -49,25 +42,6 @@ func list(pairs ...string) []api.Field {
 		out = append(out, api.Field{Name: pairs[i], Value: pairs[i+1]})
 	}
 	return out
-}
-
-func eachByte(f func(c byte, s string)) {
-	for i := range 256 {
-		f(byte(i), string([]byte{byte(i)}))
-	}
-}
-
-// words calls f with every text of at most n of the pieces.
-func words(pieces []string, n int, f func(s string)) {
-	f("")
-	if n == 0 {
-		return
-	}
-	for _, p := range pieces {
-		words(pieces, n-1, func(s string) {
-			f(p + s)
-		})
-	}
 }
 
 // definedCheck: P4.1, from the definitions.
@@ -222,12 +196,12 @@ func TestCheckOrder(t *testing.T) {
 
 // TestEachByte: P4.1, P4.2, every byte at every place of a name and of a value.
 func TestEachByte(t *testing.T) {
-	eachByte(func(_ byte, a string) {
+	samples.EachByte(func(_ byte, a string) {
 		for _, s := range []string{a, a + "x", "x" + a, "x" + a + "x"} {
 			wantCheck(t, list(s, "v"), definedCheck(list(s, "v")))
 			wantCheck(t, list("N", s), definedCheck(list("N", s)))
 		}
-		eachByte(func(_ byte, b string) {
+		samples.EachByte(func(_ byte, b string) {
 			for _, s := range []string{a + b + "N: v\r\n", "N" + a + b + " v\r\n", "N:" + a + b + "v\r\n", "N: v" + a + b + "\r\n", "N: v" + a + b, "N: v\r\n" + a + b} {
 				l, e := definedParse(s)
 				wantParse(t, s, l, e)
@@ -298,7 +272,7 @@ func TestParseLimits(t *testing.T) {
 
 // TestParseByDefinition: P4.2, P4.6, every text of few pieces.
 func TestParseByDefinition(t *testing.T) {
-	words([]string{"A", ":", " ", "\t", "\r\n", "\r", "\n", "\xff", "b: c\r\n"}, 6, func(s string) {
+	samples.Words([]string{"A", ":", " ", "\t", "\r\n", "\r", "\n", "\xff", "b: c\r\n"}, 6, func(s string) {
 		want, wantE := definedParse(s)
 		wantParse(t, s, want, wantE)
 		l, _ := fields.Parse(s)
@@ -335,7 +309,7 @@ func TestThereAndBack(t *testing.T) {
 	} {
 		wantParse(t, fields.Put(l), l, api.OK)
 	}
-	eachByte(func(_ byte, s string) {
+	samples.EachByte(func(_ byte, s string) {
 		for _, l := range [][]api.Field{list("N"+s, "v"), list("N", s), list("N", "v"+s+"v", s, "")} {
 			if fields.Check(l) == api.OK {
 				wantParse(t, fields.Put(l), l, api.OK)

@@ -7,32 +7,12 @@ import (
 	"testing"
 
 	"inlay/api"
+	"inlay/samples"
 	"inlay/text"
 )
 
 const tokenBytes = "!#$%&'*+-.^_`|~0123456789" +
 	"ABCDEFGHIJKLMNOPQRSTUVWXYZabcdefghijklmnopqrstuvwxyz"
-
-// words calls f with every string of at most n bytes of the alphabet.
-func words(alphabet string, n int, f func(s string)) {
-	var extend func(s string)
-	extend = func(s string) {
-		f(s)
-		if len(s) == n {
-			return
-		}
-		for i := range len(alphabet) {
-			extend(s + alphabet[i:i+1])
-		}
-	}
-	extend("")
-}
-
-func eachByte(f func(c byte, s string)) {
-	for i := range 256 {
-		f(byte(i), string([]byte{byte(i)}))
-	}
-}
 
 // TestToken: P1.1.
 func TestToken(t *testing.T) {
@@ -47,7 +27,7 @@ func TestToken(t *testing.T) {
 			t.Errorf("Token(%q) = %v", s, got)
 		}
 	}
-	eachByte(func(c byte, s string) {
+	samples.EachByte(func(c byte, s string) {
 		want := strings.IndexByte(tokenBytes, c) >= 0
 		for _, x := range []string{s, "a" + s, s + "a", "a" + s + "a"} {
 			if got := text.Token(x); got != want {
@@ -71,7 +51,7 @@ func TestLower(t *testing.T) {
 			t.Errorf("Lower(%q) = %q", s, got)
 		}
 	}
-	eachByte(func(c byte, s string) {
+	samples.EachByte(func(c byte, s string) {
 		want := s
 		if i := strings.IndexByte("ABCDEFGHIJKLMNOPQRSTUVWXYZ", c); i >= 0 {
 			want = "abcdefghijklmnopqrstuvwxyz"[i : i+1]
@@ -99,8 +79,8 @@ func TestSame(t *testing.T) {
 			t.Errorf("Same(%q, %q) = %v", c.a, c.b, got)
 		}
 	}
-	eachByte(func(_ byte, a string) {
-		eachByte(func(_ byte, b string) {
+	samples.EachByte(func(_ byte, a string) {
+		samples.EachByte(func(_ byte, b string) {
 			if got := text.Same(a, b); got != (text.Lower(a) == text.Lower(b)) {
 				t.Errorf("Same(%q, %q) = %v", a, b, got)
 			}
@@ -123,7 +103,7 @@ func TestTrim(t *testing.T) {
 			t.Errorf("Trim(%q) = %q", s, got)
 		}
 	}
-	eachByte(func(c byte, s string) {
+	samples.EachByte(func(c byte, s string) {
 		want := s + "x" + s
 		if c == ' ' || c == '\t' {
 			want = "x"
@@ -155,7 +135,7 @@ func TestQuote(t *testing.T) {
 			t.Errorf("Quote(%q) = %q, %d", c.s, got, e)
 		}
 	}
-	eachByte(func(c byte, s string) {
+	samples.EachByte(func(c byte, s string) {
 		want, wantE := `"x`+s+`"`, api.OK
 		switch {
 		case c < 32 && c != 9 || c == 127:
@@ -200,7 +180,7 @@ func TestUnquote(t *testing.T) {
 			t.Errorf("Unquote(%q) = %q, %d", c.s, got, e)
 		}
 	}
-	eachByte(func(c byte, s string) {
+	samples.EachByte(func(c byte, s string) {
 		allowed := c == 9 || 32 <= c && c <= 126 || c >= 128
 		bare := allowed && c != '"' && c != '\\'
 		for x, ok := range map[string]bool{`"` + s + `"`: bare, `"\` + s + `"`: allowed} {
@@ -219,7 +199,7 @@ func TestUnquote(t *testing.T) {
 func TestUnquoteByGrammar(t *testing.T) {
 	whole := regexp.MustCompile(`\A"(?:[\x09\x20\x21\x23-\x5b\x5d-\x7e\x{80}-\x{ff}]|\\[\x09\x20-\x7e\x{80}-\x{ff}])*"\z`)
 	escape := regexp.MustCompile(`(?s)\\(.)`)
-	words("\"\\a\t\n\xff", 6, func(s string) {
+	samples.Words([]string{"\"", "\\", "a", "\t", "\n", "\xff"}, 6, func(s string) {
 		var runes []rune
 		for i := range len(s) {
 			runes = append(runes, rune(s[i]))
@@ -302,7 +282,7 @@ func TestSplit(t *testing.T) {
 
 // TestSplitEverySeparator: P1.3; two bytes alone can't separate.
 func TestSplitEverySeparator(t *testing.T) {
-	eachByte(func(c byte, s string) {
+	samples.EachByte(func(c byte, s string) {
 		if c == '"' || c == '\\' {
 			checkSplit(t, "1"+s+"2", c, nil, api.ErrArg)
 			return
@@ -348,7 +328,7 @@ func TestNoPlaceIsShared(t *testing.T) {
 
 // TestThereAndBack: P1.4.
 func TestThereAndBack(t *testing.T) {
-	words("aA \t\"\\\xff\n,", 5, func(s string) {
+	samples.Words([]string{"a", "A", " ", "\t", "\"", "\\", "\xff", "\n", ","}, 5, func(s string) {
 		q, e := text.Quote(s)
 		if wrong := strings.Contains(s, "\n"); wrong != (e != api.OK) {
 			t.Errorf("Quote(%q): %d", s, e)
@@ -364,7 +344,7 @@ func TestThereAndBack(t *testing.T) {
 			t.Errorf("Lower(%q) = %q", low, again)
 		}
 	})
-	eachByte(func(_ byte, s string) {
+	samples.EachByte(func(_ byte, s string) {
 		q, e := text.Quote(s)
 		if e != api.OK {
 			return
@@ -388,7 +368,7 @@ func TestTokenElsewhere(t *testing.T) {
 		if got := text.Trim(s); got != s {
 			t.Errorf("Trim(%q) = %q", s, got)
 		}
-		eachByte(func(sep byte, _ string) {
+		samples.EachByte(func(sep byte, _ string) {
 			if sep != '"' && sep != '\\' && strings.IndexByte(s, sep) < 0 {
 				checkSplit(t, s, sep, []string{s}, api.OK)
 			}
