@@ -35,13 +35,8 @@ func isValue(s string) bool {
 	return value.MatchString(w) && !ends.MatchString(w)
 }
 
-// list answers the fields of names and values in turn.
 func list(pairs ...string) []api.Field {
-	var out []api.Field
-	for i := 0; i < len(pairs); i += 2 {
-		out = append(out, api.Field{Name: pairs[i], Value: pairs[i+1]})
-	}
-	return out
+	return samples.Fields(pairs...)
 }
 
 // definedCheck: P4.1, from the definitions.

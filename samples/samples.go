@@ -1,5 +1,7 @@
-// Package samples makes the texts that the tests of several layers try; no layer calls it.
+// Package samples makes the texts and fields that the tests of several layers try; no layer calls it.
 package samples
+
+import "inlay/api"
 
 // EachByte calls f with every byte, and with the text that consists of it.
 func EachByte(f func(c byte, s string)) {
@@ -28,4 +30,13 @@ func Wide(s string) string {
 		runes = append(runes, rune(s[i]))
 	}
 	return string(runes)
+}
+
+// Fields answers the header fields of names and values in turn.
+func Fields(pairs ...string) []api.Field {
+	var out []api.Field
+	for i := 1; i < len(pairs); i += 2 {
+		out = append(out, api.Field{Name: pairs[i-1], Value: pairs[i]})
+	}
+	return out
 }
