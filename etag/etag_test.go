@@ -65,14 +65,6 @@ func at(tick int64) string {
 	return written(tick, fixdate)
 }
 
-func told(l []api.Field) string {
-	var out []string
-	for _, f := range l[:min(len(l), 9)] {
-		out = append(out, strconv.Quote(f.Name+": "+f.Value[:min(len(f.Value), 90)]))
-	}
-	return "[" + strings.Join(out, ", ") + "]"
-}
-
 func wantParse(t *testing.T, s string, weak bool, tag string, e api.Errno) {
 	t.Helper()
 	if gotWeak, gotTag, gotE := etag.Parse(s); gotWeak != weak || gotTag != tag || gotE != e {
@@ -116,7 +108,7 @@ func wantNotModified(t *testing.T, req, rep []api.Field, now int64, want bool) {
 	// The reply's status and body make no difference.
 	for _, r := range []api.Reply{{Status: 200, Minor: 1, Fields: rep, Body: "b"}, {Status: 404, Fields: rep}} {
 		if got := etag.NotModified(req, r, now); got != want {
-			t.Errorf("NotModified(%s, %s, %d) = %t", told(req), told(rep), now, got)
+			t.Errorf("NotModified(%s, %s, %d) = %t", samples.Told(req), samples.Told(rep), now, got)
 		}
 	}
 }
@@ -507,15 +499,15 @@ func TestArgumentsStay(t *testing.T) {
 	sameReq, sameRep := made()
 	for range 2 {
 		if !etag.NotModified(req, rep, 0) {
-			t.Errorf("NotModified(%s, %s, 0) = false", told(req), told(rep.Fields))
+			t.Errorf("NotModified(%s, %s, 0) = false", samples.Told(req), samples.Told(rep.Fields))
 		}
 	}
 	if !reflect.DeepEqual(req, sameReq) || !reflect.DeepEqual(rep, sameRep) {
-		t.Errorf("changed: %s, %s", told(req), told(rep.Fields))
+		t.Errorf("changed: %s, %s", samples.Told(req), samples.Told(rep.Fields))
 	}
 	req[0].Value = `"b"`
 	if etag.NotModified(req, rep, 0) {
-		t.Errorf("NotModified(%s, %s, 0) = true", told(req), told(rep.Fields))
+		t.Errorf("NotModified(%s, %s, 0) = true", samples.Told(req), samples.Told(rep.Fields))
 	}
 }
 

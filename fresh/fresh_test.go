@@ -67,11 +67,7 @@ func sum(a, b int) int {
 }
 
 func told(e api.Entry) string {
-	var out []string
-	for _, f := range e.Reply.Fields[:min(len(e.Reply.Fields), 9)] {
-		out = append(out, strconv.Quote(f.Name+": "+f.Value[:min(len(f.Value), 90)]))
-	}
-	return strconv.FormatInt(e.Asked, 10) + " " + strconv.FormatInt(e.Got, 10) + " [" + strings.Join(out, ", ") + "]"
+	return strconv.FormatInt(e.Asked, 10) + " " + strconv.FormatInt(e.Got, 10) + " " + samples.Told(e.Reply.Fields)
 }
 
 func wantLife(t *testing.T, e api.Entry, device string, want int) {
@@ -412,24 +408,13 @@ type sample struct {
 	atGot int
 }
 
-// mixed answers the name with letters of any case.
-func mixed(random *rand.Rand, name string) string {
-	out := []byte(name)
-	for i, c := range out {
-		if c >= 'a' && random.Intn(3) == 0 {
-			out[i] = c - 'a' + 'A'
-		}
-	}
-	return string(out)
-}
-
 // someSample answers an entry that was made of its meanings: nothing is read to say what is to come of it.
 func someSample(random *rand.Rand) sample {
 	ticks := someTicks()
 	asked, got := ticks[random.Intn(len(ticks))], ticks[random.Intn(len(ticks))]
 	var pairs []string
 	add := func(name, value string) {
-		pairs = slices.Insert(pairs, random.Intn(len(pairs)/2+1)*2, mixed(random, name), value)
+		pairs = slices.Insert(pairs, random.Intn(len(pairs)/2+1)*2, samples.Mixed(name, random.Intn), value)
 	}
 	some := func(name string, l []said) (s said, there bool) {
 		if random.Intn(2) == 0 {
@@ -473,7 +458,7 @@ func someDirectives(random *rand.Rand) (words []string, life int, there bool) {
 	for range random.Intn(5) {
 		name := []string{"no-cache", "s-maxage", "max-age", "max-age", "no-store"}[random.Intn(5)]
 		n := one(random, someNumbers())
-		word := mixed(random, name) + `="` + n.text + `"`
+		word := samples.Mixed(name, random.Intn) + `="` + n.text + `"`
 		if n.text == "" {
 			word = name
 		}

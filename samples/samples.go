@@ -1,7 +1,12 @@
 // Package samples makes the texts and fields that the tests of several layers try; no layer calls it.
 package samples
 
-import "inlay/api"
+import (
+	"strconv"
+	"strings"
+
+	"inlay/api"
+)
 
 // EachByte calls f with every byte, and with the text that consists of it.
 func EachByte(f func(c byte, s string)) {
@@ -39,4 +44,24 @@ func Fields(pairs ...string) []api.Field {
 		out = append(out, api.Field{Name: pairs[i-1], Value: pairs[i]})
 	}
 	return out
+}
+
+// Mixed answers the name with letters of any case; draw answers a number from 0 to below n.
+func Mixed(name string, draw func(n int) int) string {
+	out := []byte(name)
+	for i, c := range out {
+		if 'a' <= c && c <= 'z' && draw(3) == 0 {
+			out[i] = c - 'a' + 'A'
+		}
+	}
+	return string(out)
+}
+
+// Told answers what a failed test says of a list of fields: the beginning of it, if it is long.
+func Told(l []api.Field) string {
+	var out []string
+	for _, f := range l[:min(len(l), 9)] {
+		out = append(out, strconv.Quote(f.Name+": "+f.Value[:min(len(f.Value), 90)]))
+	}
+	return "[" + strings.Join(out, ", ") + "]"
 }

@@ -102,20 +102,12 @@ func of(name string, values ...string) []api.Field {
 	return out
 }
 
-func told(l []api.Field) string {
-	var out []string
-	for _, f := range l[:min(len(l), 9)] {
-		out = append(out, strconv.Quote(f.Name+": "+f.Value[:min(len(f.Value), 90)]))
-	}
-	return "[" + strings.Join(out, ", ") + "]"
-}
-
 // wantNames holds the names of a reply with these fields; its status, reason, version and body make no difference.
 func wantNames(t *testing.T, l []api.Field, want []string, ok bool) {
 	t.Helper()
 	for _, rep := range []api.Reply{{Fields: l}, {Status: 200, Reason: "*", Minor: 1, Fields: l, Body: "vary: *"}} {
 		if got, gotOK := vary.Names(rep); gotOK != ok || !slices.Equal(got, want) {
-			t.Errorf("Names(%s) = %.90q, %t; want %.90q, %t", told(l), got, gotOK, want, ok)
+			t.Errorf("Names(%s) = %.90q, %t; want %.90q, %t", samples.Told(l), got, gotOK, want, ok)
 		}
 	}
 }
@@ -131,7 +123,7 @@ func wantSelect(t *testing.T, names []string, req []api.Field, pairs ...string) 
 	t.Helper()
 	want := samples.Fields(pairs...)
 	if got := vary.Select(names, req); !slices.Equal(got, want) {
-		t.Errorf("Select(%.90q, %s) = %s; want %s", names, told(req), told(got), told(want))
+		t.Errorf("Select(%.90q, %s) = %s; want %s", names, samples.Told(req), samples.Told(got), samples.Told(want))
 	}
 	wantMatches(t, want, req, true)
 	for i := range want {
@@ -152,7 +144,7 @@ func wantMatches(t *testing.T, selected, req []api.Field, want bool) {
 	t.Helper()
 	for _, e := range []api.Entry{{Vary: selected}, {Reply: api.Reply{Status: 200, Fields: samples.Fields("Vary", "*", "x", "y")}, Asked: 1, Got: 2, Vary: selected}} {
 		if got := vary.Matches(e, req); got != want {
-			t.Errorf("Matches(%s, %s) = %t", told(selected), told(req), got)
+			t.Errorf("Matches(%s, %s) = %t", samples.Told(selected), samples.Told(req), got)
 		}
 	}
 }
@@ -353,7 +345,7 @@ func TestSelect(t *testing.T) {
 	}
 	pairs[1] = "a, b"
 	if got := vary.Select(names, samples.Fields("N0", "a,b", "Y", "d")); !slices.Equal(got, samples.Fields(pairs...)) {
-		t.Errorf("Select of many names = %s", told(got))
+		t.Errorf("Select of many names = %s", samples.Told(got))
 	}
 }
 
@@ -439,7 +431,7 @@ func TestSamples(t *testing.T) {
 		}
 		got, ok := vary.Names(api.Reply{Fields: rep})
 		if !ok || !slices.Equal(got, wantNames) {
-			t.Fatalf("Names(%s) = %q, %t; want %q", told(rep), got, ok, wantNames)
+			t.Fatalf("Names(%s) = %q, %t; want %q", samples.Told(rep), got, ok, wantNames)
 		}
 		var pairs []string
 		for _, name := range wantNames {
@@ -498,7 +490,7 @@ func TestNoEffect(t *testing.T) {
 		wantMatches(t, selected, req, true)
 		again := written(lists)
 		if got := vary.Select(names, again); !slices.Equal(got, selected) {
-			t.Errorf("%s is selected from %s, and %s from %s", told(selected), told(req), told(got), told(again))
+			t.Errorf("%s is selected from %s, and %s from %s", samples.Told(selected), samples.Told(req), samples.Told(got), samples.Told(again))
 		}
 		wantMatches(t, selected, again, true)
 		other := written(drawn())
@@ -516,7 +508,7 @@ func TestArgumentsStay(t *testing.T) {
 	first, _ := vary.Names(rep)
 	second, _ := vary.Names(rep)
 	if want := (api.Reply{Status: 200, Fields: samples.Fields("Vary", "accept,Cookie", "vary", "cookie")}); !reflect.DeepEqual(rep, want) {
-		t.Errorf("changed: %s", told(rep.Fields))
+		t.Errorf("changed: %s", samples.Told(rep.Fields))
 	}
 	if unsafe.StringData(first[0]) == unsafe.StringData(rep.Fields[0].Value) {
 		t.Errorf("the name %q has its place in %q", first[0], rep.Fields[0].Value)
@@ -543,15 +535,15 @@ func TestArgumentsStay(t *testing.T) {
 	}
 	want := samples.Fields("accept", "abc", "x", `"d,e`, "y", "")
 	if !slices.Equal(selected, want) || !slices.Equal(names, []string{"accept", "x", "y"}) || !slices.Equal(req, samples.Fields("Accept", "abc", "X", `"d,e`)) {
-		t.Errorf("changed: %s, %q, %s", told(selected), names, told(req))
+		t.Errorf("changed: %s, %q, %s", samples.Told(selected), names, samples.Told(req))
 	}
 	clear(selected[:cap(selected)])
 	if !slices.Equal(other, want) {
-		t.Errorf("changed: %s", told(other))
+		t.Errorf("changed: %s", samples.Told(other))
 	}
 	req[0].Value, names[1] = "b", "z"
 	if !slices.Equal(other, want) || vary.Matches(api.Entry{Vary: other}, req) {
-		t.Errorf("kept: %s", told(other))
+		t.Errorf("kept: %s", samples.Told(other))
 	}
 }
 
