@@ -2,6 +2,7 @@
 package samples
 
 import (
+	"slices"
 	"strconv"
 	"strings"
 
@@ -55,6 +56,16 @@ func Mixed(name string, draw func(n int) int) string {
 		}
 	}
 	return string(out)
+}
+
+// Pick answers one of l; draw answers a number from 0 to below n.
+func Pick[T any](draw func(n int) int, l ...T) T {
+	return l[draw(len(l))]
+}
+
+// Inserted answers l with a field more, anywhere, its name with letters of any case; draw answers a number from 0 to below n.
+func Inserted(draw func(n int) int, l []api.Field, name, value string) []api.Field {
+	return slices.Insert(slices.Clone(l), draw(len(l)+1), api.Field{Name: Mixed(name, draw), Value: value})
 }
 
 // Told answers what a failed test says of a list of fields: the beginning of it, if it is long.

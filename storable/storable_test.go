@@ -366,25 +366,16 @@ type sample struct {
 	may bool
 }
 
-// inserted answers the fields and one more, somewhere among them.
-func inserted(random *rand.Rand, l []api.Field, name, value string) []api.Field {
-	return slices.Insert(slices.Clone(l), random.Intn(len(l)+1), api.Field{Name: samples.Mixed(name, random.Intn), Value: value})
-}
-
-func pick[T any](random *rand.Rand, l ...T) T {
-	return l[random.Intn(len(l))]
-}
-
 // someSample answers a question that was made of its meanings: nothing is read to say what is to come of it.
 func someSample(random *rand.Rand) sample {
 	q := plain()
-	q.method = pick(random, "GET", "GET", "GET", "GET", "HEAD", "get")
-	q.Reply.Status = pick(random, 200, 200, 301, 404, 410, 302, 500)
+	q.method = samples.Pick(random.Intn, "GET", "GET", "GET", "GET", "HEAD", "get")
+	q.Reply.Status = samples.Pick(random.Intn, 200, 200, 301, 404, 410, 302, 500)
 	may := q.method == "GET" && q.Reply.Status != 302 && q.Reply.Status != 500
 	some := func(l *[]api.Field, name string, from ...said) said {
-		s := pick(random, from...)
+		s := samples.Pick(random.Intn, from...)
 		if s.text != "" {
-			*l = inserted(random, *l, name, s.text)
+			*l = samples.Inserted(random.Intn, *l, name, s.text)
 		}
 		may = may && !s.bars
 		return s
@@ -440,14 +431,14 @@ func TestNoDifference(t *testing.T) {
 	for range 20000 {
 		s := someSample(random)
 		for range random.Intn(4) {
-			s.req = inserted(random, s.req, pick(random, asked...), pick(random, values...))
-			s.Reply.Fields = inserted(random, s.Reply.Fields, pick(random, answered...), pick(random, values...))
+			s.req = samples.Inserted(random.Intn, s.req, samples.Pick(random.Intn, asked...), samples.Pick(random.Intn, values...))
+			s.Reply.Fields = samples.Inserted(random.Intn, s.Reply.Fields, samples.Pick(random.Intn, answered...), samples.Pick(random.Intn, values...))
 		}
-		s.Reply.Reason = pick(random, values...)
-		s.Reply.Body = pick(random, values...)
-		s.Reply.Minor = pick(random, -1, 0, 1, 2, math.MaxInt)
-		s.Asked = pick[int64](random, math.MinInt64, 0, 110, 111, math.MaxInt64)
-		s.Vary = samples.Fields("*", "*", pick(random, asked...), pick(random, values...))
+		s.Reply.Reason = samples.Pick(random.Intn, values...)
+		s.Reply.Body = samples.Pick(random.Intn, values...)
+		s.Reply.Minor = samples.Pick(random.Intn, -1, 0, 1, 2, math.MaxInt)
+		s.Asked = samples.Pick[int64](random.Intn, math.MinInt64, 0, 110, 111, math.MaxInt64)
+		s.Vary = samples.Fields("*", "*", samples.Pick(random.Intn, asked...), samples.Pick(random.Intn, values...))
 		s.want(t, s.may)
 		if t.Failed() {
 			return
@@ -461,10 +452,10 @@ func TestAddition(t *testing.T) {
 	more := func(l []api.Field, name, directive string) []api.Field {
 		place := slices.IndexFunc(l, func(f api.Field) bool { return strings.EqualFold(f.Name, name) })
 		if place < 0 || random.Intn(2) == 0 {
-			return inserted(random, l, name, directive)
+			return samples.Inserted(random.Intn, l, name, directive)
 		}
 		out := slices.Clone(l)
-		out[place].Value = pick(random, out[place].Value+", "+directive, directive+", "+out[place].Value)
+		out[place].Value = samples.Pick(random.Intn, out[place].Value+", "+directive, directive+", "+out[place].Value)
 		return out
 	}
 	for range 20000 {
@@ -473,10 +464,10 @@ func TestAddition(t *testing.T) {
 		q.req = more(s.req, "cache-control", "no-store")
 		q.want(t, false)
 		q = s.question
-		q.Reply.Fields = more(s.Reply.Fields, "cache-control", pick(random, "no-store", "private"))
+		q.Reply.Fields = more(s.Reply.Fields, "cache-control", samples.Pick(random.Intn, "no-store", "private"))
 		q.want(t, false)
 		q = s.question
-		q.Reply.Fields = more(s.Reply.Fields, "surrogate-control", pick(random, "no-store", "no-store;d"))
+		q.Reply.Fields = more(s.Reply.Fields, "surrogate-control", samples.Pick(random.Intn, "no-store", "no-store;d"))
 		q.want(t, false)
 		if t.Failed() {
 			return
@@ -518,19 +509,19 @@ func TestAnyBytes(t *testing.T) {
 		for range random.Intn(6) {
 			value := ""
 			for range random.Intn(7) {
-				value += pick(random, pieces...)
+				value += samples.Pick(random.Intn, pieces...)
 			}
-			out = inserted(random, out, pick(random, names...), value)
+			out = samples.Inserted(random.Intn, out, samples.Pick(random.Intn, names...), value)
 		}
 		return out
 	}
 	ticks := []int64{math.MinInt64, -1, 0, 110, api.LastTick, api.LastTick + 1, math.MaxInt64}
 	for range 50000 {
-		req, e := drawn(), api.Entry{Reply: api.Reply{Status: 200, Fields: drawn()}, Asked: pick(random, ticks...), Got: pick(random, ticks...), Vary: drawn()}
-		device := pick(random, pieces...)
+		req, e := drawn(), api.Entry{Reply: api.Reply{Status: 200, Fields: drawn()}, Asked: samples.Pick(random.Intn, ticks...), Got: samples.Pick(random.Intn, ticks...), Vary: drawn()}
+		device := samples.Pick(random.Intn, pieces...)
 		first := storable.May("GET", req, e, device)
 		question{"GET", req, e, device}.want(t, first)
-		e.Reply.Status = pick(random, 0, 199, 201, 302, 500)
+		e.Reply.Status = samples.Pick(random.Intn, 0, 199, 201, 302, 500)
 		question{"GET", req, e, device}.want(t, false)
 	}
 	storable.May("", nil, api.Entry{}, "")

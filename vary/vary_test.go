@@ -390,7 +390,7 @@ func TestMatchesByDefinition(t *testing.T) {
 
 // drawing answers a function that draws one of the texts.
 func drawing(random *rand.Rand, texts ...string) func() string {
-	return func() string { return texts[random.Intn(len(texts))] }
+	return func() string { return samples.Pick(random.Intn, texts...) }
 }
 
 // TestSamples: P15.1, P15.2, replies and requests of everything at a time, made of their meanings.
