@@ -438,17 +438,7 @@ func TestByDefinition(t *testing.T) {
 func TestEachByte(t *testing.T) {
 	for _, s := range []string{crlf("3;a=b/abc/00/A: b//"), crlf("1/a/A;/0123456789/0//"), crlf("0/A:b/c: d//")} {
 		wantDefined(t, s, 100)
-		samples.EachByte(func(_ byte, c string) {
-			for i := range len(s) + 1 {
-				wantDefined(t, s[:i]+c+s[i:], 12)
-				wantDefined(t, s[:i]+c+s[min(i+1, len(s)):], 12)
-			}
-		})
-		for i := range len(s) + 1 {
-			for j := range len(s) + 1 {
-				wantDefined(t, s[:i]+s[j:], 12)
-			}
-		}
+		samples.Spoilt(s, func(s string) { wantDefined(t, s, 12) })
 	}
 }
 
@@ -548,11 +538,7 @@ func TestAnyText(t *testing.T) {
 			s = strings.TrimSuffix(s, "\r\n") + "A: b\r\nC: " + strings.Map(func(r rune) rune { return max(r, ' ') }, body) + "x\r\n\r\n"
 		}
 		for range random.Intn(4) {
-			i, j := random.Intn(len(s)+1), random.Intn(len(s)+1)
-			if random.Intn(2) == 0 {
-				j = min(i+1, len(s))
-			}
-			s = s[:i] + strings.Repeat("\r\n1;x", random.Intn(2)) + s[j:]
+			s = samples.Damaged(random.Intn, s, "", "\r\n1;x")
 		}
 		wantDefined(t, s, random.Intn(60))
 	})

@@ -727,18 +727,7 @@ func TestByDefinition(t *testing.T) {
 // TestEachByte: P8.1, P8.2, every byte at every place of a message: put there, and in place of what stood there; and messages of which some is missing.
 func TestEachByte(t *testing.T) {
 	for _, s := range []string{"GET /a HTTP/1.1|Host: h||xy", "POST / HTTP/1.1|Content-Length: 2||ab|", "P / HTTP/1.0|Transfer-Encoding: chunked||1|a|0|B:c||d", "HTTP/1.1 200 OK|A:b|Content-Length: 3||abc", "HTTP/1.1 404 ||x", "HTTP/1.0 204 x|transfer-encoding: chunked||1|a|0||"} {
-		s = crlf(s)
-		samples.EachByte(func(_ byte, c string) {
-			for i := range len(s) + 1 {
-				wantDefined(t, s[:i]+c+s[i:])
-				wantDefined(t, s[:i]+c+s[min(i+1, len(s)):])
-			}
-		})
-		for i := range len(s) + 1 {
-			for j := range len(s) + 1 {
-				wantDefined(t, s[:i]+s[j:])
-			}
-		}
+		samples.Spoilt(crlf(s), func(s string) { wantDefined(t, s) })
 	}
 }
 

@@ -29,6 +29,31 @@ func Words(pieces []string, n int, f func(s string)) {
 	}
 }
 
+// Spoilt calls f with s, with every byte put at every place of it, and in place of what stands there, and with what there is when a part is missing, or stands there twice.
+func Spoilt(s string, f func(s string)) {
+	f(s)
+	EachByte(func(_ byte, c string) {
+		for i := range len(s) + 1 {
+			f(s[:i] + c + s[i:])
+			f(s[:i] + c + s[min(i+1, len(s)):])
+		}
+	})
+	for i := range len(s) + 1 {
+		for j := range len(s) + 1 {
+			f(s[:i] + s[j:])
+		}
+	}
+}
+
+// Damaged answers s with one of the pieces put in place of a part of it, of a byte, or of none; draw answers a number from 0 to below n.
+func Damaged(draw func(n int) int, s string, pieces ...string) string {
+	i, j := draw(len(s)+1), draw(len(s)+1)
+	if draw(2) == 0 {
+		j = min(i+1, len(s))
+	}
+	return s[:i] + Pick(draw, pieces...) + s[j:]
+}
+
 // Wide answers the bytes of s, each as a rune of its own, so that expressions can be held against them.
 func Wide(s string) string {
 	var runes []rune
